@@ -1,0 +1,1 @@
+"""Neighbours on a line: parties, their seats and their places."""

@@ -1,0 +1,84 @@
+"""Parties on a line: who is in the middle, and which sets of them are rows of neighbours.
+
+A set of parties is a number in which party i counts 2^i.
+"""
+
+MOST_PARTIES = 7
+MOST_SEATS = 200
+LAST_PLACE = 100
+
+NOT_AS_TOLD = -22
+NO_SUCH_PARTY = -2
+
+
+def are_as_told(seats, places):
+    """Whether seats and places tell of 1 to 7 parties, each within its ranges."""
+    if len(seats) < 1 or len(seats) > MOST_PARTIES:
+        return False
+    if len(places) != len(seats):
+        return False
+    if min(seats) < 1 or max(seats) > MOST_SEATS:
+        return False
+    return min(places) >= 0 and max(places) <= LAST_PLACE
+
+
+def holds(s, i):
+    """Whether party i is of the set s."""
+    return (s >> i) % 2 == 1
+
+
+def seats_of(s, seats):
+    """How many seats the set s has."""
+    return sum([seats[i] for i in range(len(seats)) if holds(s, i)])
+
+
+def places_of(s, places):
+    """Where the parties of the set s stand."""
+    return [places[i] for i in range(len(places)) if holds(s, i)]
+
+
+def width(s, places):
+    """How far it is from the least place of the set s to its greatest."""
+    taken = places_of(s, places)
+    if len(taken) == 0:
+        return 0
+    return max(taken) - min(taken)
+
+
+def is_row(s, places):
+    """Whether the set s is a row of neighbours."""
+    taken = places_of(s, places)
+    if len(taken) == 0:
+        return True
+    least = min(taken)
+    greatest = max(taken)
+    # The two at the ends are enough: who stands between any two of s stands between these.
+    # One at an end's own place may be left out; one at the place of another of s may not.
+    between = [i for i in range(len(places)) if places[i] > least and places[i] < greatest]
+    return all([holds(s, i) for i in between])
+
+
+def is_in_middle(i, seats, places):
+    """Whether neither side of party i has more than half of all seats."""
+    lesser = sum([seats[k] for k in range(len(seats)) if places[k] < places[i]])
+    greater = sum([seats[k] for k in range(len(seats)) if places[k] > places[i]])
+    # Doubled instead of halved, so that an odd number of seats is not rounded.
+    return 2 * lesser <= sum(seats) and 2 * greater <= sum(seats)
+
+
+def middle(seats, places):
+    """How many parties are in the middle, then these, rising; or a refusal."""
+    if not are_as_told(seats, places):
+        return [NOT_AS_TOLD]
+    found = [i for i in range(len(seats)) if is_in_middle(i, seats, places)]
+    return [len(found)] + found
+
+
+def joined(s, seats, places):
+    """1 if the set s is a row of neighbours, else 0; then its width and its seats; or a refusal."""
+    if not are_as_told(seats, places):
+        return [NOT_AS_TOLD]
+    if s >> len(seats) != 0:
+        return [NO_SUCH_PARTY]
+    row = 1 if is_row(s, places) else 0
+    return [row, width(s, places), seats_of(s, seats)]
