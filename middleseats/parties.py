@@ -1,4 +1,4 @@
-"""Parties on a line: who is in the middle, and which sets of them are rows of neighbours.
+"""Parties on a line: who is in the middle, which sets are rows of neighbours, which win and are tight or narrow.
 
 A set of parties is a number in which party i counts 2^i.
 """
@@ -32,6 +32,17 @@ def seats_of(s, seats):
     return sum([seats[i] for i in range(len(seats)) if holds(s, i)])
 
 
+def wins(s, seats):
+    """Whether the set s has more than half of all seats."""
+    # Doubled instead of halved, so that an odd number of seats is not rounded.
+    return 2 * seats_of(s, seats) > sum(seats)
+
+
+def sets_that_win(seats):
+    """The sets that win, rising."""
+    return [s for s in range(1 << len(seats)) if wins(s, seats)]
+
+
 def places_of(s, places):
     """Where the parties of the set s stand."""
     return [places[i] for i in range(len(places)) if holds(s, i)]
@@ -58,6 +69,12 @@ def is_row(s, places):
     return all([holds(s, i) for i in between])
 
 
+def can_miss_nobody(s, rows):
+    """Whether the set s, without any one of its parties, is none of these rows."""
+    smaller = [s - (1 << i) for i in range(MOST_PARTIES) if holds(s, i)]
+    return not any([rest in rows for rest in smaller])
+
+
 def is_in_middle(i, seats, places):
     """Whether neither side of party i has more than half of all seats."""
     lesser = sum([seats[k] for k in range(len(seats)) if places[k] < places[i]])
@@ -82,3 +99,21 @@ def joined(s, seats, places):
         return [NO_SUCH_PARTY]
     row = 1 if is_row(s, places) else 0
     return [row, width(s, places), seats_of(s, seats)]
+
+
+def tight(seats, places):
+    """How many winning rows of neighbours can miss none of their parties, then these, rising; or a refusal."""
+    if not are_as_told(seats, places):
+        return [NOT_AS_TOLD]
+    rows = [s for s in sets_that_win(seats) if is_row(s, places)]
+    found = [s for s in rows if can_miss_nobody(s, rows)]
+    return [len(found)] + found
+
+
+def narrowest(seats, places):
+    """The width of the narrowest set that wins, then that set and its seats; or a refusal."""
+    if not are_as_told(seats, places):
+        return [NOT_AS_TOLD]
+    # The order within a tuple is the order in which ties are settled: width, seats, number of the set.
+    best = min([(width(s, places), seats_of(s, seats), s) for s in sets_that_win(seats)])
+    return [best[0], best[2], best[1]]

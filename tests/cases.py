@@ -4,7 +4,7 @@ import itertools
 
 GREATEST = 4294967295
 
-# Each with what is wrong in it; middle and joined refuse all of these with -22.
+# Each with what is wrong in it; every call refuses all of these with -22.
 NOT_AS_TOLD = [
     ("no party", [], []),
     ("no party, but a place", [], [50]),
@@ -67,6 +67,24 @@ def lines(most_parties, seat_choices, place_choices):
         for seats in itertools.product(seat_choices, repeat=count):
             for places in itertools.product(place_choices, repeat=count):
                 yield list(seats), list(places)
+
+
+def long_lines():
+    """Lines of 5 to 7 parties, spread over the ranges, with ties among the places and the seats."""
+    for k in range(90):
+        everybody = range(5 + k % 3)
+        most_seats, last_place = (3, 20, 200)[k % 9 // 3], (3, 10, 100)[k // 30]
+        seats = [(31 * k + 17 * i * i + 7 * i) % most_seats + 1 for i in everybody]
+        places = [(53 * k + 29 * i + k * i * i) % (last_place + 1) for i in everybody]
+        yield seats, places
+
+
+def sets_of(seats):
+    """Every set of these parties, each as (its number, its parties)."""
+    everybody = range(len(seats))
+    for count in range(len(seats) + 1):
+        for own in itertools.combinations(everybody, count):
+            yield sum(2 ** i for i in own), own
 
 
 def is_plain_answer(answer):

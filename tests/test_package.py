@@ -17,6 +17,8 @@ class InterfaceTest(unittest.TestCase):
     ARGUMENTS = {
         "middle": ["seats", "places"],
         "joined": ["s", "seats", "places"],
+        "tight": ["seats", "places"],
+        "narrowest": ["seats", "places"],
     }
 
     def test_names_and_arguments(self):
@@ -31,6 +33,10 @@ class InterfaceTest(unittest.TestCase):
             parties.middle([], [])
             parties.joined(1, [1, 2], [3, 4])
             parties.joined(4, [1, 2], [3, 4])
+            parties.tight([1, 2], [3, 4])
+            parties.tight([], [])
+            parties.narrowest([1, 2], [3, 4])
+            parties.narrowest([], [])
         self.assertEqual(printed.getvalue(), "")
 
 
