@@ -1,4 +1,5 @@
-"""Parties on a line: who is in the middle, which sets are rows of neighbours, which win and are tight or narrow.
+"""Parties on a line: who is in the middle, which sets are rows of neighbours, which win and are tight or narrow,
+which place is the least away from all seats, and which of two motions has more seats nearer.
 
 A set of parties is a number in which party i counts 2^i.
 """
@@ -83,6 +84,16 @@ def is_in_middle(i, seats, places):
     return 2 * lesser <= sum(seats) and 2 * greater <= sum(seats)
 
 
+def away_together(place, seats, places):
+    """How far all seats together are away from this place."""
+    return sum([seats[i] * abs(places[i] - place) for i in range(len(seats))])
+
+
+def seats_nearer(x, y, seats, places):
+    """How many seats are nearer to x than to y."""
+    return sum([seats[i] for i in range(len(seats)) if abs(places[i] - x) < abs(places[i] - y)])
+
+
 def middle(seats, places):
     """How many parties are in the middle, then these, rising; or a refusal."""
     if not are_as_told(seats, places):
@@ -117,3 +128,21 @@ def narrowest(seats, places):
     # The order within a tuple is the order in which ties are settled: width, seats, number of the set.
     best = min([(width(s, places), seats_of(s, seats), s) for s in sets_that_win(seats)])
     return [best[0], best[2], best[1]]
+
+
+def centre(seats, places):
+    """The place from which all seats are least away together, then how far; or a refusal."""
+    if not are_as_told(seats, places):
+        return [NOT_AS_TOLD]
+    # Behind how far in the tuple, so that of places equally away the first on the line is taken.
+    best = min([(away_together(place, seats, places), place) for place in range(LAST_PLACE + 1)])
+    return [best[1], best[0]]
+
+
+def motion(x, y, seats, places):
+    """How many seats are nearer to x than to y, then how many are nearer to y; or a refusal."""
+    if not are_as_told(seats, places):
+        return [NOT_AS_TOLD]
+    if x > LAST_PLACE or y > LAST_PLACE:
+        return [NOT_AS_TOLD]
+    return [seats_nearer(x, y, seats, places), seats_nearer(y, x, seats, places)]

@@ -19,6 +19,8 @@ class InterfaceTest(unittest.TestCase):
         "joined": ["s", "seats", "places"],
         "tight": ["seats", "places"],
         "narrowest": ["seats", "places"],
+        "centre": ["seats", "places"],
+        "motion": ["x", "y", "seats", "places"],
     }
 
     def test_names_and_arguments(self):
@@ -37,6 +39,10 @@ class InterfaceTest(unittest.TestCase):
             parties.tight([], [])
             parties.narrowest([1, 2], [3, 4])
             parties.narrowest([], [])
+            parties.centre([1, 2], [3, 4])
+            parties.centre([], [])
+            parties.motion(3, 4, [1, 2], [3, 4])
+            parties.motion(101, 4, [1, 2], [3, 4])
         self.assertEqual(printed.getvalue(), "")
 
 
