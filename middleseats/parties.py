@@ -1,5 +1,6 @@
 """Parties on a line: who is in the middle, which sets are rows of neighbours, which win and are tight or narrow,
-which place is the least away from all seats, and which of two motions has more seats nearer.
+which place is the least away from all seats, which of two motions has more seats nearer, and who would be in the
+middle, were one party to move.
 
 A set of parties is a number in which party i counts 2^i.
 """
@@ -84,6 +85,11 @@ def is_in_middle(i, seats, places):
     return 2 * lesser <= sum(seats) and 2 * greater <= sum(seats)
 
 
+def all_in_middle(seats, places):
+    """The parties that are in the middle, rising."""
+    return [i for i in range(len(seats)) if is_in_middle(i, seats, places)]
+
+
 def away_together(place, seats, places):
     """How far all seats together are away from this place."""
     return sum([seats[i] * abs(places[i] - place) for i in range(len(seats))])
@@ -98,7 +104,7 @@ def middle(seats, places):
     """How many parties are in the middle, then these, rising; or a refusal."""
     if not are_as_told(seats, places):
         return [NOT_AS_TOLD]
-    found = [i for i in range(len(seats)) if is_in_middle(i, seats, places)]
+    found = all_in_middle(seats, places)
     return [len(found)] + found
 
 
@@ -146,3 +152,18 @@ def motion(x, y, seats, places):
     if x > LAST_PLACE or y > LAST_PLACE:
         return [NOT_AS_TOLD]
     return [seats_nearer(x, y, seats, places), seats_nearer(y, x, seats, places)]
+
+
+def moved(i, x, seats, places):
+    """How many parties would be in the middle, did party i stand at x, then these, rising; or a refusal."""
+    if not are_as_told(seats, places):
+        return [NOT_AS_TOLD]
+    if i >= len(seats):
+        return [NO_SUCH_PARTY]
+    if x > LAST_PLACE:
+        return [NOT_AS_TOLD]
+    # A copy: what is handed in is not changed, not for a while either.
+    after = list(places)
+    after[i] = x
+    found = all_in_middle(seats, after)
+    return [len(found)] + found

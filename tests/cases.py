@@ -87,6 +87,16 @@ def sets_of(seats):
             yield sum(2 ** i for i in own), own
 
 
+def middle_by_seats(seats, places):
+    """Found otherwise: seat by seat along the line, the one or two halfway."""
+    row = sorted(place for count, place in zip(seats, places) for seat in range(count))
+    halfway = (row[(len(row) - 1) // 2], row[len(row) // 2])
+    found = [i for i, place in enumerate(places) if place in halfway]
+    return [len(found)] + found
+
+
 def is_plain_answer(answer):
-    """Whether it is a list of whole numbers, none of them True or False."""
-    return type(answer) is list and all(type(number) is int for number in answer)
+    """Whether it is a list of whole numbers, none of them True or False, and only a refusal, alone, below 0."""
+    if type(answer) is not list or not all(type(number) is int for number in answer):
+        return False
+    return answer in ([-22], [-2]) or all(number >= 0 for number in answer)

@@ -2,7 +2,7 @@
 
 import unittest
 
-from cases import EDGES, GREATEST, NOT_AS_TOLD, ReadOnlyList, is_plain_answer, lines
+from cases import EDGES, GREATEST, NOT_AS_TOLD, ReadOnlyList, is_plain_answer, lines, long_lines
 from middleseats.parties import joined
 
 
@@ -134,7 +134,7 @@ class RefusalTest(unittest.TestCase):
 
 class HoldsTest(unittest.TestCase):
     def test_turned_about(self):
-        for seats, places in EDGES:
+        for seats, places in EDGES + list(long_lines()):
             turned = [100 - place for place in places]
             for s in range(2 ** len(seats)):
                 self.assertEqual(joined(s, seats, turned), joined(s, seats, places), (s, seats, places))

@@ -2,16 +2,8 @@
 
 import unittest
 
-from cases import EDGES, NOT_AS_TOLD, ReadOnlyList, is_plain_answer, lines
+from cases import EDGES, NOT_AS_TOLD, ReadOnlyList, is_plain_answer, lines, long_lines, middle_by_seats
 from middleseats.parties import joined, middle
-
-
-def middle_by_seats(seats, places):
-    """Found otherwise: seat by seat along the line, the one or two halfway."""
-    row = sorted(place for count, place in zip(seats, places) for seat in range(count))
-    halfway = (row[(len(row) - 1) // 2], row[len(row) // 2])
-    found = [i for i, place in enumerate(places) if place in halfway]
-    return [len(found)] + found
 
 
 class OrdinaryTest(unittest.TestCase):
@@ -42,6 +34,10 @@ class OrdinaryTest(unittest.TestCase):
 
     def test_as_by_seats_at_great_numbers(self):
         for seats, places in lines(3, (1, 99, 100, 101, 199, 200), (0, 1, 99, 100)):
+            self.assertEqual(middle(seats, places), middle_by_seats(seats, places), (seats, places))
+
+    def test_as_by_seats_of_long_lines(self):
+        for seats, places in EDGES + list(long_lines()):
             self.assertEqual(middle(seats, places), middle_by_seats(seats, places), (seats, places))
 
 
@@ -104,11 +100,11 @@ class RefusalTest(unittest.TestCase):
 
 class HoldsTest(unittest.TestCase):
     def test_somebody_is_always_in_the_middle(self):
-        for seats, places in lines(4, (1, 2), (0, 1, 2)):
+        for seats, places in EDGES + list(long_lines()) + list(lines(4, (1, 2), (0, 1, 2))):
             self.assertGreaterEqual(middle(seats, places)[0], 1, (seats, places))
 
     def test_just_one_is_of_every_row_that_wins(self):
-        for seats, places in lines(4, (1, 3), (0, 1, 2)):
+        for seats, places in EDGES + list(long_lines()) + list(lines(4, (1, 3), (0, 1, 2))):
             found = middle(seats, places)
             if found[0] > 1:
                 continue
@@ -118,7 +114,7 @@ class HoldsTest(unittest.TestCase):
                     self.assertEqual(s >> found[1] & 1, 1, (s, seats, places))
 
     def test_turned_about(self):
-        for seats, places in EDGES:
+        for seats, places in EDGES + list(long_lines()):
             turned = [100 - place for place in places]
             self.assertEqual(middle(seats, turned), middle(seats, places), (seats, places))
 

@@ -21,6 +21,7 @@ class InterfaceTest(unittest.TestCase):
         "narrowest": ["seats", "places"],
         "centre": ["seats", "places"],
         "motion": ["x", "y", "seats", "places"],
+        "moved": ["i", "x", "seats", "places"],
     }
 
     def test_names_and_arguments(self):
@@ -43,6 +44,8 @@ class InterfaceTest(unittest.TestCase):
             parties.centre([], [])
             parties.motion(3, 4, [1, 2], [3, 4])
             parties.motion(101, 4, [1, 2], [3, 4])
+            parties.moved(1, 0, [1, 2], [3, 4])
+            parties.moved(2, 0, [1, 2], [3, 4])
         self.assertEqual(printed.getvalue(), "")
 
 
